@@ -1,0 +1,1 @@
+"""Needleroll: strips that are wound up and pricked through all their turns."""
