@@ -25,3 +25,11 @@ def lowest(top, bottom):
     """The fraction of top by bottom, in lowest terms."""
     shared = common_divisor(top, bottom)
     return (top // shared, bottom // shared)
+
+
+def is_fraction(thing):
+    """Whether thing, which may be anything, is a fraction in lowest terms."""
+    if not isinstance(thing, tuple) or len(thing) != 2:
+        return False
+    top, bottom = thing
+    return is_whole(top) and is_whole(bottom) and bottom >= 1 and common_divisor(top, bottom) == 1

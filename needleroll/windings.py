@@ -1,6 +1,9 @@
 """Strips that are wound round a rod, and the cells that a needle pricks."""
 
-from needleroll.fraction import common_multiple, is_whole, lowest
+from needleroll.fraction import common_multiple, is_fraction, is_whole, lowest
+
+# The least and the greatest number of cells.
+STRIP = (1, 24)
 
 # The least and the greatest girth, growth and end.
 BOUNDS = ((4, 16), (0, 8), (0, 1))
@@ -9,11 +12,33 @@ BOUNDS = ((4, 16), (0, 8), (0, 1))
 CELL = 2
 
 
+def is_within(thing, bounds):
+    """Whether thing, which may be anything, is a whole number from the one bound to the other."""
+    low, high = bounds
+    return is_whole(thing) and low <= thing <= high
+
+
+def is_strip(thing):
+    """Whether thing, which may be anything, is a number of cells that a strip can have."""
+    return is_within(thing, STRIP)
+
+
 def is_winding(thing):
     """Whether thing, which may be anything, is a winding."""
     if not isinstance(thing, tuple) or len(thing) != len(BOUNDS):
         return False
-    return all([is_whole(part) and low <= part <= high for part, (low, high) in zip(thing, BOUNDS)])
+    return all([is_within(part, bounds) for part, bounds in zip(thing, BOUNDS)])
+
+
+def is_angle(thing):
+    """Whether thing, which may be anything, is an angle."""
+    return is_fraction(thing) and 0 <= thing[0] < thing[1]
+
+
+def all_windings():
+    """All windings, rising."""
+    girths, growths, ends = [list(range(low, high + 1)) for low, high in BOUNDS]
+    return [(girth, growth, end) for girth in girths for growth in growths for end in ends]
 
 
 def turns(many, winding):

@@ -8,6 +8,11 @@ def unwished(cells, wished):
     return [cell for cell in cells if cell not in wished]
 
 
+def harmless(many, winding, wished):
+    """The stretches that prick no cell but wished ones, or nothing at all, rising."""
+    return [row for row in stretches(many, winding) if not unwished(row[2], wished)]
+
+
 def barred(many, winding, wished):
     """Of each barred wish, rising: the cell, and the least cell that is spoilt by each stretch that pricks it."""
     groups = [cells for begin, after, cells in stretches(many, winding)]

@@ -82,3 +82,69 @@ def barred(many, winding, wished):
         through = [cells for _, _, cells in stretches(many, winding) if cell in cells]
         told.append((cell, tuple(min(set(cells) - set(wished)) for cells in through)))
     return told
+
+
+def harmless(many, winding, wished):
+    """Of each harmless stretch the cells, as a set, in their order."""
+    return [set(cells) for _, _, cells in stretches(many, winding) if set(cells) <= set(wished)]
+
+
+def fewest(many, winding, wished):
+    """How many pricks it takes, by going through all holes that one, two, three .. harmless needles make."""
+    groups = [frozenset(cells) for cells in harmless(many, winding, wished)]
+    reached = {frozenset()}
+    for number in range(many + 1):
+        if frozenset(wished) in reached:
+            return number
+        reached |= {holes | group for holes in reached for group in groups}
+    return None
+
+
+def is_cell(thing, wished):
+    return type(thing) is int and thing in wished
+
+
+def is_family(thing, wished, through, groups):
+    if type(thing) is not tuple or not all(is_cell(cell, wished) for cell in thing):
+        return False
+    if any(one >= other for one, other in zip(thing, thing[1:])):
+        return False
+    return not through & set(thing) and all(len(group & set(thing)) < 2 for group in groups)
+
+
+def shown(many, winding, wished, thing):
+    if makeable(many, winding, wished) != wished or type(thing) is not tuple:
+        return None
+    if wished == ():
+        return 0 if thing == () else None
+    if len(thing) != 2 or not is_cell(thing[0], wished) or type(thing[1]) is not tuple:
+        return None
+    groups = harmless(many, winding, wished)
+    needed = [group for group in groups if thing[0] in group]
+    if len(needed) != len(thing[1]):
+        return None
+    if not all(is_family(family, wished, through, groups) for family, through in zip(thing[1], needed)):
+        return None
+    return 1 + min(len(family) for family in thing[1])
+
+
+def light(many, winding, holes):
+    """The stretches without harm, joined where they touch: each as long as the next one begins where it ends."""
+    rows = [(begin, end) for begin, end, cells in stretches(many, winding) if set(cells) <= set(holes)]
+    begins = {begin for begin, _ in rows}
+    ends = {end for _, end in rows}
+    froms = [begin for begin, _ in rows if begin not in ends]
+    return list(zip(froms, [end for _, end in rows if end not in begins]))
+
+
+def backward(many, cells):
+    return tuple(sorted(many - 1 - cell for cell in cells))
+
+
+# Of what point 2 says that anything is made of, with some that only look like what is asked for.
+ANYTHING = [
+    None, True, False, 0, 1, -1, 4, 24, 10 ** 20 - 1, 1 - 10 ** 20, "", "0", "4", "(4, 0, 0)", "x" * 100,
+    [], (), [0], (0,), (None,), [[]], ((),), ([],), [None] * 300, (0,) * 300, ("",) * 300, tuple(range(300)),
+    [[[[[[1]]]]]], ((((((1,),),),),),), ([([([1],)],)],), (0, 1, 2), [0, 1, 2], (True, False), (0, ()), [0, []],
+    (0, None), (0, "ab"), (0, 5), (0, [()]), (0, ((),)), ((0,), (1,)), ("0", ((),)), (10 ** 19, ((10 ** 19,),)),
+]

@@ -48,6 +48,33 @@ class Language(unittest.TestCase):
                     self.assertEqual(node.level, 0, path)
                     self.assertNotIn("*", [name.name for name in node.names], path)
 
+    def test_what_does_not_go_with_classes_that_compare_and_have_a_length(self):
+        for path in FILES:
+            for node in ast.walk(ast.parse(path.read_text(encoding="utf-8"))):
+                self.assertNotIsInstance(node, (ast.GeneratorExp, ast.Try), path)
+                self.assertNotEqual(node.attr if isinstance(node, ast.Attribute) else "", "sort", path)
+
+    def test_no_name_is_a_method_and_an_attribute(self):
+        methods, attributes = set(), set()
+        for path in FILES:
+            for node in ast.walk(ast.parse(path.read_text(encoding="utf-8"))):
+                if isinstance(node, ast.ClassDef):
+                    methods |= {part.name for part in node.body if isinstance(part, ast.FunctionDef)}
+                if isinstance(node, ast.Attribute) and isinstance(node.ctx, ast.Store):
+                    attributes.add(node.attr)
+        self.assertEqual(methods & attributes, set())
+
+    def test_no_local_name_is_that_of_an_import(self):
+        for path in FILES:
+            tree = ast.parse(path.read_text(encoding="utf-8"))
+            imports = [node for node in tree.body if isinstance(node, ast.ImportFrom)]
+            imported = {name.asname or name.name for node in imports for name in node.names}
+            for node in ast.walk(tree):
+                if isinstance(node, ast.arg):
+                    self.assertNotIn(node.arg, imported, path)
+                if isinstance(node, ast.Name) and isinstance(node.ctx, ast.Store):
+                    self.assertNotIn(node.id, imported, path)
+
 
 if __name__ == "__main__":
     unittest.main()
